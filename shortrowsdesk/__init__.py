@@ -1,0 +1,1 @@
+"""Brainrows: short floating numbers in rows, matrices and nets."""
