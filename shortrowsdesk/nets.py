@@ -1,6 +1,6 @@
 """Nets read from bytes and judged, layer after layer."""
 
-from shortrowsdesk.matrices import MOST_WIDE, is_size, woven_size
+from shortrowsdesk.matrices import MOST_WIDE, is_size, woven_column, woven_size
 
 MARK = (66, 82, 78, 49)
 HEAD = 6
@@ -31,7 +31,9 @@ class Walk:
         # Of each layer 14 that is still gone through: times, width and aside as they were at it.
         self.loops = []
         self.times = 1
+        self.layers = []
         self.done = 0
+        self.need = self.width_in
         self.ended = False
 
     def layer(self):
@@ -43,6 +45,20 @@ class Walk:
     def used_net(self):
         h = self.told(1)
         return self.below[h] if h < len(self.below) else None
+
+
+class Layer:
+    # A whole layer, as a walk that stands at it finds it; the widths are the row's.
+    def __init__(self, walk):
+        self.place = walk.place
+        self.byte = walk.layer()
+        self.width_before = walk.width
+        self.width_behind = new_width(walk)
+        self.aside_before = len(walk.aside)
+        self.numbers = told_numbers(walk)
+        # Of a layer 1 alone: read once, since a layer may be done often.
+        self.columns = told_columns(walk) if self.byte == 1 else []
+        self.singles = told_singles(walk) if self.byte == 1 else []
 
 
 def judged(net, below):
@@ -111,6 +127,26 @@ def new_width(walk):
     return walk.width
 
 
+def told_numbers(walk):
+    # What stands behind the layer's byte, but a layer 1's matrix and singles.
+    layer = walk.layer()
+    if layer == 14:
+        return [walk.net[walk.place + 1]]
+    return [walk.told(offset + 1) for offset in range(0, BEHIND.get(layer, 0), 2)]
+
+
+def told_columns(walk):
+    m = walk.told(1)
+    woven = [walk.told(3 + 2 * place) for place in range(woven_size(walk.width, m))]
+    return [woven_column(walk.width, woven, column) for column in range(m)]
+
+
+def told_singles(walk):
+    m = walk.told(1)
+    first = 3 + 2 * woven_size(walk.width, m)
+    return [walk.told(first + 4 * j) + 65536 * walk.told(first + 4 * j + 2) for j in range(m)]
+
+
 def has_wrong_width(walk):
     layer = walk.layer()
     if layer == 10 and walk.told(1) + walk.told(3) > walk.width:
@@ -152,9 +188,24 @@ def layers_done(walk):
     return walk.times
 
 
+def lying(walk):
+    return sum(walk.aside) + walk.width
+
+
+def need_at(walk):
+    layer = walk.layer()
+    if layer == 9:
+        return max(lying(walk) + new_width(walk), sum(walk.aside) + walk.used_net().need)
+    if layer == 1:
+        return lying(walk) + new_width(walk)
+    return lying(walk)
+
+
 def pass_layer(walk):
     layer = walk.layer()
+    walk.layers.append(Layer(walk))
     walk.done += layers_done(walk)
+    walk.need = max(walk.need, need_at(walk))
     end = layer_end(walk)
     width = new_width(walk)
     if layer == 4:
@@ -172,3 +223,8 @@ def pass_layer(walk):
     walk.ended = layer == 0
     walk.width = width
     walk.place = end
+    walk.need = max(walk.need, lying(walk))
+
+
+def joined(a, b):
+    return a[:-1] + b[HEAD:]

@@ -21,9 +21,10 @@ def rank(x):
     return -x if x & SIGN else x
 
 
-def greatest_place(row):
-    best = 0
-    for place in range(1, len(row)):
-        if rank(row[place]) > rank(row[best]):
+def greatest_place(singles, first, width):
+    # Counted from the row's first number; the row needn't be all of singles.
+    best = first
+    for place in range(first + 1, first + width):
+        if rank(singles[place]) > rank(singles[best]):
             best = place
-    return best
+    return best - first

@@ -35,6 +35,19 @@ def narrow(x):
     return (x + 32767 + ((x >> 16) & 1)) >> 16
 
 
+def clamped(x):
+    return 0 if x & SIGN else x
+
+
+def single_of(number):
+    # The bits of a whole number from 0 on, of at most 24 bits.
+    if number == 0:
+        return 0
+    spare = 24 - number.bit_length()
+    # Added, not joined: the uppermost bit of what is moved up is one unit of the exponent.
+    return ((149 - spare) << 23) + (number << spare)
+
+
 def step(s, a, b):
     s_power = (s >> 23) & 255
     a_power = (a >> 7) & 255

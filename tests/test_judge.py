@@ -1,41 +1,7 @@
 import unittest
 
-from shortrowsdesk.nets import judged
-from tests.words import only_answer
-
-MARK = [66, 82, 78, 49]
-END = [0]
-ASIDE = [4]
-LOOP_END = [15]
-
-
-def two(number):
-    return [number % 256, number // 256]
-
-
-def net(width, *layers):
-    found = MARK + two(width)
-    for layer in layers:
-        found += layer
-    return found
-
-
-def matrix_layer(k, m):
-    """A layer 1 for a row of k, with bytes that would be layers 0 and no layers if they were read as such."""
-    woven = 32 * ((k + 1) // 2) * ((m + 15) // 16)
-    return [1] + two(m) + [0, 255] * woven + [0, 0, 128, 63] * m
-
-
-def use(h, m):
-    return [9] + two(h) + two(m)
-
-
-def cut(f, m):
-    return [10] + two(f) + two(m)
-
-
-def loop(r):
-    return [14, r]
+from tests.made_nets import ASIDE, END, LOOP_END, MARK, cut, loop, matrix_layer, net, two, use
+from tests.words import all_answers, only_answer
 
 
 def judge(bytes_of_net, s=8):
@@ -284,18 +250,16 @@ class BehindTheLast(unittest.TestCase):
 
 
 class UsedNets(unittest.TestCase):
-    """No call keeps nets yet, so where a house isn't empty its nets are handed to the judging itself."""
-
     def setUp(self):
-        self.house = [None] * 8
+        self.calls = []
 
     def keep(self, place, *parts):
-        fault, walk = judged(net(*parts), self.house[:place])
-        self.assertIsNone(fault)
-        self.house[place] = walk
+        self.calls.append((12, place, net(*parts)))
 
-    def fault(self, s, *parts):
-        return judged(net(*parts), self.house[:s])[0]
+    def judge(self, s, *parts):
+        found = all_answers(*self.calls, (8, s, net(*parts)))
+        self.assertEqual(found[:-1], [[0]] * len(self.calls))
+        return found[-1]
 
     def test_none_is_kept(self):
         for s in range(9):
@@ -304,46 +268,45 @@ class UsedNets(unittest.TestCase):
 
     def test_kept_below(self):
         self.keep(2, 3, matrix_layer(3, 5), END)
-        self.assertIsNone(self.fault(3, 3, use(2, 5), cut(0, 5), END))
-        self.assertIsNone(self.fault(8, 3, use(2, 5), END))
-        self.assertEqual(self.fault(2, 3, use(2, 5), END), (-9, 6))
-        self.assertEqual(self.fault(0, 3, use(2, 5), END), (-9, 6))
-        self.assertEqual(self.fault(8, 3, use(1, 5), END), (-9, 6))
-        self.assertEqual(self.fault(8, 3, use(3, 5), END), (-9, 6))
-        self.assertEqual(self.fault(8, 3, use(2 + 256, 5), END), (-9, 6))
+        self.assertEqual(self.judge(3, 3, use(2, 5), cut(0, 5), END), [0])
+        self.assertEqual(self.judge(8, 3, use(2, 5), END), [0])
+        self.assertEqual(self.judge(2, 3, use(2, 5), END), [-9, 6])
+        self.assertEqual(self.judge(0, 3, use(2, 5), END), [-9, 6])
+        self.assertEqual(self.judge(8, 3, use(1, 5), END), [-9, 6])
+        self.assertEqual(self.judge(8, 3, use(3, 5), END), [-9, 6])
+        self.assertEqual(self.judge(8, 3, use(2 + 256, 5), END), [-9, 6])
 
     def test_other_widths(self):
         self.keep(0, 3, matrix_layer(3, 5), END)
-        self.assertEqual(self.fault(8, 4, use(0, 5), END), (-9, 6))
-        self.assertEqual(self.fault(8, 3, use(0, 3), END), (-9, 6))
-        self.assertEqual(self.fault(8, 3, use(0, 4), END), (-9, 6))
-        self.assertEqual(self.fault(8, 5, cut(0, 3), use(0, 5), cut(0, 6), END), (-5, 16))
+        self.assertEqual(self.judge(8, 4, use(0, 5), END), [-9, 6])
+        self.assertEqual(self.judge(8, 3, use(0, 3), END), [-9, 6])
+        self.assertEqual(self.judge(8, 3, use(0, 4), END), [-9, 6])
+        self.assertEqual(self.judge(8, 5, cut(0, 3), use(0, 5), cut(0, 6), END), [-5, 16])
 
     def test_a_used_net_does_its_layers_too(self):
         self.keep(0, 3, [2] * 14, END)
         # Each use counts 1 and 15; 255 of them are 4,080.
-        self.assertIsNone(self.fault(8, 3, use(0, 3) * 255, [2] * 15, END))
-        self.assertEqual(self.fault(8, 3, use(0, 3) * 255, [2] * 16, END), (-10, 6 + 255 * 5 + 16))
-        self.assertEqual(self.fault(8, 3, use(0, 3) * 256, [2], END), (-10, 6 + 256 * 5))
-        self.assertEqual(self.fault(8, 3, use(0, 3) * 256, END), (-10, 6 + 256 * 5))
-        self.assertEqual(self.fault(8, 3, [2], use(0, 3) * 256, END), (-10, 7 + 255 * 5))
+        self.assertEqual(self.judge(8, 3, use(0, 3) * 255, [2] * 15, END), [0])
+        self.assertEqual(self.judge(8, 3, use(0, 3) * 255, [2] * 16, END), [-10, 6 + 255 * 5 + 16])
+        self.assertEqual(self.judge(8, 3, use(0, 3) * 256, [2], END), [-10, 6 + 256 * 5])
+        self.assertEqual(self.judge(8, 3, use(0, 3) * 256, END), [-10, 6 + 256 * 5])
+        self.assertEqual(self.judge(8, 3, [2], use(0, 3) * 256, END), [-10, 7 + 255 * 5])
 
     def test_as_often_as_it_is_done(self):
         self.keep(0, 3, [2] * 13, END)
         # Each use counts 1 and 14, and with it a 15 of the loop: 16 each time.
-        self.assertIsNone(self.fault(8, 3, loop(240), use(0, 3), LOOP_END, END))
-        self.assertIsNone(self.fault(8, 3, [2] * 14, loop(255), use(0, 3), LOOP_END, END))
-        self.assertEqual(self.fault(8, 3, [2] * 15, loop(255), use(0, 3), LOOP_END, END), (-10, 6 + 15 + 2 + 5 + 1))
+        self.assertEqual(self.judge(8, 3, loop(240), use(0, 3), LOOP_END, END), [0])
+        self.assertEqual(self.judge(8, 3, [2] * 14, loop(255), use(0, 3), LOOP_END, END), [0])
+        self.assertEqual(self.judge(8, 3, [2] * 15, loop(255), use(0, 3), LOOP_END, END), [-10, 6 + 15 + 2 + 5 + 1])
         # 1 and 16 for the layers 14, 256 times 15; the 15 would be 256 more.
-        self.assertEqual(self.fault(8, 3, loop(16), loop(16), use(0, 3), LOOP_END, LOOP_END, END), (-10, 15))
+        self.assertEqual(self.judge(8, 3, loop(16), loop(16), use(0, 3), LOOP_END, LOOP_END, END), [-10, 15])
 
     def test_nets_within_nets(self):
         self.keep(0, 3, [2] * 7, END)
         self.keep(1, 3, loop(15), use(0, 3), LOOP_END, END)
         # The net at 1 does 1 + 15 * (1 + 8) + 15 + 1 = 152.
-        self.assertEqual(self.house[1].done, 152)
-        self.assertIsNone(self.fault(2, 3, use(1, 3) * 26, [2] * 117, END))
-        self.assertEqual(self.fault(2, 3, use(1, 3) * 26, [2] * 118, END), (-10, 6 + 26 * 5 + 118))
+        self.assertEqual(self.judge(2, 3, use(1, 3) * 26, [2] * 117, END), [0])
+        self.assertEqual(self.judge(2, 3, use(1, 3) * 26, [2] * 118, END), [-10, 6 + 26 * 5 + 118])
 
 
 class LayersDone(unittest.TestCase):

@@ -18,6 +18,20 @@ def only_answer(*call):
     return given[1:]
 
 
+def all_answers(*calls):
+    """The answers to several calls on one house, one list for each."""
+    given = answers([number for call in calls for number in flat(call)])
+    found = []
+    while given:
+        found.append(given[1:given[0] + 1])
+        if len(found[-1]) != given[0]:
+            raise AssertionError(f"the count is not that of the answer: {given}")
+        given = given[given[0] + 1:]
+    if len(found) != len(calls):
+        raise AssertionError(f"{len(found)} answers to {len(calls)} calls")
+    return found
+
+
 def flat(call):
     numbers = []
     for part in call:
@@ -72,6 +86,19 @@ def nearest(size, digits):
         exponent -= 1
     unit = power(exponent - digits + 1)
     return round(size / unit) * unit
+
+
+def said_narrow(x):
+    """Section 1's narrowing, by the nearest number of eight significant bits."""
+    sign = 0x8000 if minus(x) else 0
+    if kind(x) == "nan":
+        return x >> 16 | 1 << 6
+    if kind(x) == "zero":
+        return sign
+    if kind(x) == "infinity":
+        return x >> 16
+    size = nearest(abs(value(x)), 8)
+    return sign | (INFINITY if size >= power(128) else single(size)) >> 16
 
 
 def said_step(s, a, b):
