@@ -193,6 +193,7 @@ def lying(walk):
 
 
 def need_at(walk):
+    # What lies there behind a layer lies there before the next one, and behind the 0 as before it.
     layer = walk.layer()
     if layer == 9:
         return max(lying(walk) + new_width(walk), sum(walk.aside) + walk.used_net().need)
@@ -223,7 +224,6 @@ def pass_layer(walk):
     walk.ended = layer == 0
     walk.width = width
     walk.place = end
-    walk.need = max(walk.need, lying(walk))
 
 
 def joined(a, b):

@@ -139,7 +139,10 @@ class SinglesAndNeed(unittest.TestCase):
                 need = all_answers(*keeps(nets), (9, place, nets[place]))[-1][3]
                 states, most = said_watches(nets, place, row)
                 self.assertLessEqual(most, need)
-                found = self.most_of_run(Run(place, known[place], row), states)
+                run = Run(place, known[place], row)
+                self.assertEqual(len(run.singles), need)
+                found = self.most_of_run(run, states)
+                self.assertEqual(len(run.singles), need)
                 self.assertLessEqual(most, found)
                 self.assertLessEqual(found, need)
                 as_many += found == need

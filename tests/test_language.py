@@ -182,6 +182,23 @@ class Names(unittest.TestCase):
             for name in names:
                 self.assertNotIn(name, dir(builtins), path.name)
 
+    def test_lists_and_dicts_of_the_top_are_only_read(self):
+        for path, tree in trees().items():
+            kept = {}
+            for node in tree.body:
+                if isinstance(node, ast.Assign) and isinstance(node.value, (ast.List, ast.Dict)):
+                    kept[node.targets[0].id] = True
+                    for part in ast.walk(node.value):
+                        self.assertTrue(part is node.value or not isinstance(part, (ast.List, ast.Dict)), path.name)
+            read = {}
+            for node in ast.walk(tree):
+                if isinstance(node, (ast.Subscript, ast.Attribute)) and isinstance(node.ctx, ast.Load):
+                    if isinstance(node, ast.Subscript) or node.attr == "get":
+                        read[node.value] = True
+            for node in ast.walk(tree):
+                if isinstance(node, ast.Name) and isinstance(node.ctx, ast.Load) and node.id in kept:
+                    self.assertIn(node, read, (path.name, node.lineno))
+
     def test_read(self):
         for path, tree in trees().items():
             known = list(bound_names(tree)) + BUILT_IN
